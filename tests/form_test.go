@@ -1,0 +1,105 @@
+package tests
+
+import (
+	"bytes"
+	"go/ast"
+	"go/format"
+	"go/parser"
+	"go/token"
+	"os"
+	"path/filepath"
+	"strings"
+	"testing"
+)
+
+// mayImport has what the program may import of the library.
+const mayImport = " bytes cmp container/heap errors iter maps math math/bits slices sort strconv strings sync sync/atomic unicode unicode/utf8 "
+
+const mostLines = 60
+
+func eachFile(t *testing.T, look func(name string, text []byte, set *token.FileSet, f *ast.File)) {
+	t.Helper()
+	names, err := filepath.Glob("../impl/*")
+	if err != nil || len(names) == 0 {
+		t.Fatal("no file of the program", err)
+	}
+	for _, name := range names {
+		text, err := os.ReadFile(name)
+		if err != nil {
+			t.Fatal(err)
+		}
+		set := token.NewFileSet()
+		f, err := parser.ParseFile(set, name, text, parser.ParseComments)
+		if err != nil {
+			t.Fatal(err)
+		}
+		look(name, text, set, f)
+	}
+}
+
+func TestLayout(t *testing.T) {
+	eachFile(t, func(name string, text []byte, _ *token.FileSet, _ *ast.File) {
+		if laid, err := format.Source(text); err != nil || !bytes.Equal(laid, text) {
+			t.Errorf("%s has not gofmt's layout (%v)", name, err)
+		}
+	})
+}
+
+func TestImportsAndLines(t *testing.T) {
+	eachFile(t, func(name string, _ []byte, _ *token.FileSet, f *ast.File) {
+		for _, i := range f.Imports {
+			if path := strings.Trim(i.Path.Value, "\""); !strings.Contains(mayImport, " "+path+" ") {
+				t.Errorf("%s imports %s", name, path)
+			}
+		}
+		for _, group := range f.Comments {
+			for _, c := range group.List {
+				if strings.HasPrefix(c.Text, "//go:") || strings.HasPrefix(c.Text, "// +build") {
+					t.Errorf("%s has the line %s", name, c.Text)
+				}
+			}
+		}
+	})
+}
+
+func TestFunctionsAreSmall(t *testing.T) {
+	eachFile(t, func(name string, _ []byte, set *token.FileSet, f *ast.File) {
+		for _, d := range f.Decls {
+			if x, ok := d.(*ast.FuncDecl); ok {
+				if n := set.Position(x.End()).Line - set.Position(x.Pos()).Line + 1; n > mostLines {
+					t.Errorf("%s: %s has %d lines", name, x.Name.Name, n)
+				}
+			}
+		}
+	})
+}
+
+func TestMemoryIsReadByConversion(t *testing.T) {
+	found := 0
+	eachFile(t, func(name string, _ []byte, _ *token.FileSet, f *ast.File) {
+		if filepath.Base(name) != "l01_memory.go" {
+			return
+		}
+		ast.Inspect(f, func(n ast.Node) bool {
+			if x, ok := n.(*ast.CallExpr); ok && isArrayOfEight(x.Fun) && len(x.Args) == 1 {
+				if _, ok := x.Args[0].(*ast.SliceExpr); ok {
+					found++
+				}
+			}
+			return true
+		})
+	})
+	if found == 0 {
+		t.Error("no slice is made an array of eight bytes by conversion")
+	}
+}
+
+func isArrayOfEight(e ast.Expr) bool {
+	a, ok := e.(*ast.ArrayType)
+	if !ok {
+		return false
+	}
+	size, ok := a.Len.(*ast.BasicLit)
+	of, named := a.Elt.(*ast.Ident)
+	return ok && named && size.Value == "8" && of.Name == "byte"
+}
