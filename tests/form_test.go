@@ -103,3 +103,57 @@ func isArrayOfEight(e ast.Expr) bool {
 	of, named := a.Elt.(*ast.Ident)
 	return ok && named && size.Value == "8" && of.Name == "byte"
 }
+
+// The rows of the instructions stand in a literal inside a function, and an Inst is a key of a map.
+func TestDecodeHasItsRowsInAFunction(t *testing.T) {
+	rows, keys := 0, 0
+	eachFile(t, func(name string, _ []byte, _ *token.FileSet, f *ast.File) {
+		if filepath.Base(name) != "l02_decode.go" {
+			return
+		}
+		for _, d := range f.Decls {
+			_, inside := d.(*ast.FuncDecl)
+			ast.Inspect(d, func(n ast.Node) bool {
+				switch x := n.(type) {
+				case *ast.CompositeLit:
+					if a, ok := x.Type.(*ast.ArrayType); ok && inside && a.Len != nil && len(x.Elts) == 98 {
+						rows++
+					}
+				case *ast.MapType:
+					if key, ok := x.Key.(*ast.Ident); ok && inside && key.Name == "Inst" {
+						keys++
+					}
+				}
+				return true
+			})
+		}
+	})
+	if rows != 1 || keys == 0 {
+		t.Errorf("%d arrays of the 98 rows, %d maps with an Inst as key", rows, keys)
+	}
+}
+
+// At package level stand no maps, no functions and nothing without a value of its own.
+func TestPackageVariables(t *testing.T) {
+	eachFile(t, func(name string, _ []byte, _ *token.FileSet, f *ast.File) {
+		for _, d := range f.Decls {
+			g, ok := d.(*ast.GenDecl)
+			if !ok || g.Tok != token.VAR {
+				continue
+			}
+			for _, s := range g.Specs {
+				v := s.(*ast.ValueSpec)
+				if len(v.Values) != len(v.Names) {
+					t.Errorf("%s: %s has no value of its own", name, v.Names[0])
+				}
+				ast.Inspect(v, func(n ast.Node) bool {
+					switch n.(type) {
+					case *ast.MapType, *ast.FuncLit, *ast.FuncType:
+						t.Errorf("%s: %s is a map or a function", name, v.Names[0])
+					}
+					return true
+				})
+			}
+		}
+	})
+}
