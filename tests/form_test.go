@@ -133,6 +133,43 @@ func TestDecodeHasItsRowsInAFunction(t *testing.T) {
 	}
 }
 
+// The Ops of arithmetic are functions: fields of structs, which stand in an array of their own each.
+func TestAluHasItsOpsInArrays(t *testing.T) {
+	fields, arrays := map[string]int{}, 0
+	eachFile(t, func(name string, _ []byte, _ *token.FileSet, f *ast.File) {
+		if filepath.Base(name) != "l03_alu.go" {
+			return
+		}
+		ast.Inspect(f, func(n ast.Node) bool {
+			x, ok := n.(*ast.TypeSpec)
+			if !ok {
+				return true
+			}
+			if s, ok := x.Type.(*ast.StructType); ok {
+				for _, field := range s.Fields.List {
+					if _, ok := field.Type.(*ast.FuncType); ok {
+						fields[x.Name.Name]++
+					}
+				}
+			}
+			return true
+		})
+		ast.Inspect(f, func(n ast.Node) bool {
+			if x, ok := n.(*ast.CompositeLit); ok {
+				if a, ok := x.Type.(*ast.ArrayType); ok && a.Len != nil {
+					if of, ok := a.Elt.(*ast.Ident); ok && fields[of.Name] > 0 {
+						arrays++
+					}
+				}
+			}
+			return true
+		})
+	})
+	if arrays != 3 {
+		t.Errorf("%d arrays of structs with functions in their fields, want those of Alu, Branch and Amo", arrays)
+	}
+}
+
 // At package level stand no maps, no functions and nothing without a value of its own.
 func TestPackageVariables(t *testing.T) {
 	eachFile(t, func(name string, _ []byte, _ *token.FileSet, f *ast.File) {
