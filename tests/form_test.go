@@ -170,6 +170,47 @@ func TestAluHasItsOpsInArrays(t *testing.T) {
 	}
 }
 
+// interfacesOf are the interfaces with methods that a file declares.
+func interfacesOf(f *ast.File) map[string]int {
+	out := map[string]int{}
+	ast.Inspect(f, func(n ast.Node) bool {
+		if x, ok := n.(*ast.TypeSpec); ok {
+			if i, ok := x.Type.(*ast.InterfaceType); ok {
+				out[x.Name.Name] = len(i.Methods.List)
+			}
+		}
+		return true
+	})
+	return out
+}
+
+// A state register stands behind an interface, and its view is asked for by an assertion to another one.
+func TestCsrsAreBehindAnInterface(t *testing.T) {
+	rows, views := 0, 0
+	eachFile(t, func(name string, _ []byte, _ *token.FileSet, f *ast.File) {
+		if filepath.Base(name) != "l04_csr.go" {
+			return
+		}
+		own := interfacesOf(f)
+		ast.Inspect(f, func(n ast.Node) bool {
+			switch x := n.(type) {
+			case *ast.Field:
+				if of, ok := x.Type.(*ast.Ident); ok && own[of.Name] > 0 {
+					rows++
+				}
+			case *ast.TypeAssertExpr:
+				if to, ok := x.Type.(*ast.Ident); ok && to.Name == "viewed" && own["viewed"] > 0 {
+					views++
+				}
+			}
+			return true
+		})
+	})
+	if rows == 0 || views == 0 {
+		t.Errorf("%d fields of an interface of its own, %d assertions that ask for a view", rows, views)
+	}
+}
+
 // At package level stand no maps, no functions and nothing without a value of its own.
 func TestPackageVariables(t *testing.T) {
 	eachFile(t, func(name string, _ []byte, _ *token.FileSet, f *ast.File) {
