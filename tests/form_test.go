@@ -211,6 +211,66 @@ func TestCsrsAreBehindAnInterface(t *testing.T) {
 	}
 }
 
+// iotaNames are the constants of a file whose group begins with iota.
+func iotaNames(f *ast.File) map[string]int {
+	out := map[string]int{}
+	for _, d := range f.Decls {
+		g, ok := d.(*ast.GenDecl)
+		if !ok || g.Tok != token.CONST || len(g.Specs) == 0 {
+			continue
+		}
+		first := g.Specs[0].(*ast.ValueSpec)
+		if len(first.Values) != 1 {
+			continue
+		}
+		if x, ok := first.Values[0].(*ast.Ident); !ok || x.Name != "iota" {
+			continue
+		}
+		for place, s := range g.Specs {
+			out[s.(*ast.ValueSpec).Names[0].Name] = place
+		}
+	}
+	return out
+}
+
+// The priorities of the interrupts are constants by iota, by which the numbers stand in an array.
+func TestPrioritiesAreByIota(t *testing.T) {
+	arrays := 0
+	eachFile(t, func(name string, _ []byte, _ *token.FileSet, f *ast.File) {
+		if filepath.Base(name) != "l05_trap.go" {
+			return
+		}
+		ranks := iotaNames(f)
+		ast.Inspect(f, func(n ast.Node) bool {
+			x, ok := n.(*ast.CompositeLit)
+			if !ok {
+				return true
+			}
+			a, ok := x.Type.(*ast.ArrayType)
+			if !ok || a.Len == nil || len(x.Elts) != 6 {
+				return true
+			}
+			seen := map[int]bool{}
+			for _, e := range x.Elts {
+				if pair, ok := e.(*ast.KeyValueExpr); ok {
+					if key, ok := pair.Key.(*ast.Ident); ok {
+						if rank, ok := ranks[key.Name]; ok {
+							seen[rank] = true
+						}
+					}
+				}
+			}
+			if len(seen) == 6 {
+				arrays++
+			}
+			return true
+		})
+	})
+	if arrays != 1 {
+		t.Errorf("%d arrays of the six interrupts by constants of iota", arrays)
+	}
+}
+
 // At package level stand no maps, no functions and nothing without a value of its own.
 func TestPackageVariables(t *testing.T) {
 	eachFile(t, func(name string, _ []byte, _ *token.FileSet, f *ast.File) {

@@ -756,7 +756,9 @@ func TestPrivilegesByHand(t *testing.T) {
 	}
 }
 
-func TestListsThatAreNotRight(t *testing.T) {
+// wrongLists are too short, too long, or have in one place what its register can not have.
+func wrongLists(t *testing.T) [][]uint64 {
+	t.Helper()
 	full := fullCsrs()
 	lists := [][]uint64{nil, {}, {0}, full[:21], append(slices.Clone(full), 0), make([]uint64, 21), make([]uint64, 23), make([]uint64, 44)}
 	for _, l := range csrLines(t) {
@@ -766,8 +768,11 @@ func TestListsThatAreNotRight(t *testing.T) {
 			}
 		}
 	}
-	lists = append(lists, withWord(full, 0, 0x1000), withWord(full, 16, 0x02), withWord(full, 16, 0x82000000))
-	for _, list := range lists {
+	return append(lists, withWord(full, 0, 0x1000), withWord(full, 16, 0x02), withWord(full, 16, 0x82000000))
+}
+
+func TestListsThatAreNotRight(t *testing.T) {
+	for _, list := range wrongLists(t) {
 		for _, number := range append(csrNumbers(t), -1, 0, 767, 4095, 4096, math.MinInt64, math.MaxInt64) {
 			for _, priv := range []int64{0, 1, 2, 3} {
 				wantNoRead(t, list, number, priv)
