@@ -271,6 +271,50 @@ func TestPrioritiesAreByIota(t *testing.T) {
 	}
 }
 
+// sequencesOf are the functions of a file that answer one that yields.
+func sequencesOf(f *ast.File) map[string]int {
+	out := map[string]int{}
+	for _, d := range f.Decls {
+		x, ok := d.(*ast.FuncDecl)
+		if !ok {
+			continue
+		}
+		ast.Inspect(x, func(n ast.Node) bool {
+			if c, ok := n.(*ast.CallExpr); ok {
+				if by, ok := c.Fun.(*ast.Ident); ok && by.Name == "yield" {
+					out[x.Name.Name]++
+				}
+			}
+			return true
+		})
+	}
+	return out
+}
+
+// The regions are gone through by a range over a function.
+func TestRegionsAreRangedOver(t *testing.T) {
+	ranges := 0
+	eachFile(t, func(name string, _ []byte, _ *token.FileSet, f *ast.File) {
+		if filepath.Base(name) != "l06_protect.go" {
+			return
+		}
+		sequences := sequencesOf(f)
+		ast.Inspect(f, func(n ast.Node) bool {
+			if x, ok := n.(*ast.RangeStmt); ok {
+				if c, ok := x.X.(*ast.CallExpr); ok {
+					if of, ok := c.Fun.(*ast.Ident); ok && sequences[of.Name] > 0 {
+						ranges++
+					}
+				}
+			}
+			return true
+		})
+	})
+	if ranges == 0 {
+		t.Error("no range over a function that yields the regions")
+	}
+}
+
 // At package level stand no maps, no functions and nothing without a value of its own.
 func TestPackageVariables(t *testing.T) {
 	eachFile(t, func(name string, _ []byte, _ *token.FileSet, f *ast.File) {
