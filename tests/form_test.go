@@ -315,6 +315,52 @@ func TestRegionsAreRangedOver(t *testing.T) {
 	}
 }
 
+// callsOf counts the calls of a name in a piece of the program.
+func callsOf(within ast.Node, name string) int {
+	n := 0
+	ast.Inspect(within, func(x ast.Node) bool {
+		if c, ok := x.(*ast.CallExpr); ok {
+			if by, ok := c.Fun.(*ast.Ident); ok && by.Name == name {
+				n++
+			}
+		}
+		return true
+	})
+	return n
+}
+
+// A walk gives up by panic, inside; Walk itself recovers, in a function literal that it defers.
+func TestFaultsAreRecoveredAtTheFace(t *testing.T) {
+	panics, recovers := 0, 0
+	eachFile(t, func(name string, _ []byte, _ *token.FileSet, f *ast.File) {
+		if filepath.Base(name) != "l07_walk.go" {
+			return
+		}
+		for _, d := range f.Decls {
+			x, ok := d.(*ast.FuncDecl)
+			if !ok {
+				continue
+			}
+			if !x.Name.IsExported() {
+				panics += callsOf(x, "panic")
+			}
+			if x.Name.Name != "Walk" {
+				continue
+			}
+			for _, s := range x.Body.List {
+				if later, ok := s.(*ast.DeferStmt); ok {
+					if by, ok := later.Call.Fun.(*ast.FuncLit); ok {
+						recovers += callsOf(by, "recover")
+					}
+				}
+			}
+		}
+	})
+	if panics == 0 || recovers != 1 {
+		t.Errorf("%d panics inside, %d recovers in what Walk defers", panics, recovers)
+	}
+}
+
 // At package level stand no maps, no functions and nothing without a value of its own.
 func TestPackageVariables(t *testing.T) {
 	eachFile(t, func(name string, _ []byte, _ *token.FileSet, f *ast.File) {

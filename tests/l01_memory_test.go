@@ -353,7 +353,7 @@ func checkApart(t *testing.T, whole, ram, out []byte) {
 		ram[i] ^= 0xff
 	}
 	if !bytes.Equal(out, answer) {
-		t.Fatal("what Store answers shares bytes with its argument")
+		t.Fatal("what is answered shares bytes with an argument")
 	}
 	copy(whole, before)
 	room := out[:cap(out)]
@@ -361,7 +361,7 @@ func checkApart(t *testing.T, whole, ram, out []byte) {
 		room[i] ^= 0xff
 	}
 	if !bytes.Equal(whole, before) {
-		t.Fatal("what Store answers, or its spare room, shares bytes with its argument")
+		t.Fatal("what is answered, or its spare room, shares bytes with an argument")
 	}
 }
 
