@@ -361,6 +361,55 @@ func TestFaultsAreRecoveredAtTheFace(t *testing.T) {
 	}
 }
 
+// rangesOfChannels counts the ranges over a parameter that is a channel.
+func rangesOfChannels(x *ast.FuncDecl) int {
+	channels, n := map[string]int{}, 0
+	for _, p := range x.Type.Params.List {
+		if _, ok := p.Type.(*ast.ChanType); ok {
+			for _, name := range p.Names {
+				channels[name.Name]++
+			}
+		}
+	}
+	ast.Inspect(x, func(y ast.Node) bool {
+		if r, ok := y.(*ast.RangeStmt); ok {
+			if over, ok := r.X.(*ast.Ident); ok {
+				n += channels[over.Name]
+			}
+		}
+		return true
+	})
+	return n
+}
+
+// Bytes come over a channel that is sent to, closed and received from by a range; nobody else runs meanwhile.
+func TestBytesComeOverAChannel(t *testing.T) {
+	sends, closes, ranges, starts := 0, 0, 0, 0
+	eachFile(t, func(name string, _ []byte, _ *token.FileSet, f *ast.File) {
+		if filepath.Base(name) != "l08_device.go" {
+			return
+		}
+		for _, d := range f.Decls {
+			if x, ok := d.(*ast.FuncDecl); ok {
+				closes += callsOf(x, "close")
+				ranges += rangesOfChannels(x)
+			}
+		}
+		ast.Inspect(f, func(n ast.Node) bool {
+			switch n.(type) {
+			case *ast.SendStmt:
+				sends++
+			case *ast.GoStmt:
+				starts++
+			}
+			return true
+		})
+	})
+	if sends == 0 || closes == 0 || ranges == 0 || starts != 0 {
+		t.Errorf("%d sends, %d closes, %d ranges over a channel, %d goroutines", sends, closes, ranges, starts)
+	}
+}
+
 // At package level stand no maps, no functions and nothing without a value of its own.
 func TestPackageVariables(t *testing.T) {
 	eachFile(t, func(name string, _ []byte, _ *token.FileSet, f *ast.File) {
