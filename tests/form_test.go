@@ -410,6 +410,83 @@ func TestBytesComeOverAChannel(t *testing.T) {
 	}
 }
 
+// receiverOf is the name of a method's receiver and that of its type; both are empty of a function.
+func receiverOf(x *ast.FuncDecl) (string, string) {
+	if x.Recv == nil || len(x.Recv.List[0].Names) == 0 {
+		return "", ""
+	}
+	of := x.Recv.List[0].Type
+	if star, ok := of.(*ast.StarExpr); ok {
+		of = star.X
+	}
+	name, _ := of.(*ast.Ident)
+	return x.Recv.List[0].Names[0].Name, name.Name
+}
+
+// methodsOf are the methods of a type of the program.
+func methodsOf(t *testing.T, name string) map[string]int {
+	out := map[string]int{}
+	eachFile(t, func(_ string, _ []byte, _ *token.FileSet, f *ast.File) {
+		for _, d := range f.Decls {
+			if x, ok := d.(*ast.FuncDecl); ok {
+				if _, of := receiverOf(x); of == name {
+					out[x.Name.Name]++
+				}
+			}
+		}
+	})
+	return out
+}
+
+// embeds tells whether a file declares a struct with a field of a type that has no other name.
+func embeds(f *ast.File, name, inner string) bool {
+	found := false
+	ast.Inspect(f, func(n ast.Node) bool {
+		x, ok := n.(*ast.TypeSpec)
+		if !ok || x.Name.Name != name {
+			return true
+		}
+		if s, ok := x.Type.(*ast.StructType); ok {
+			for _, field := range s.Fields.List {
+				of, named := field.Type.(*ast.Ident)
+				found = found || named && of.Name == inner && len(field.Names) == 0
+			}
+		}
+		return true
+	})
+	return found
+}
+
+// A machine embeds its devices, and calls their methods as its own.
+func TestAMachineEmbedsItsDevices(t *testing.T) {
+	embedded, calls := false, 0
+	own, lent := methodsOf(t, "Machine"), methodsOf(t, "Dev")
+	eachFile(t, func(name string, _ []byte, _ *token.FileSet, f *ast.File) {
+		if filepath.Base(name) != "l09_bus.go" {
+			return
+		}
+		embedded = embeds(f, "Machine", "Dev")
+		for _, d := range f.Decls {
+			x, ok := d.(*ast.FuncDecl)
+			if !ok {
+				continue
+			}
+			by, of := receiverOf(x)
+			ast.Inspect(x, func(n ast.Node) bool {
+				if s, ok := n.(*ast.SelectorExpr); ok && of == "Machine" {
+					if on, ok := s.X.(*ast.Ident); ok && on.Name == by && lent[s.Sel.Name] > 0 && own[s.Sel.Name] == 0 {
+						calls++
+					}
+				}
+				return true
+			})
+		}
+	})
+	if !embedded || calls == 0 {
+		t.Errorf("embedded: %v, %d uses of a method that is the devices'", embedded, calls)
+	}
+}
+
 // At package level stand no maps, no functions and nothing without a value of its own.
 func TestPackageVariables(t *testing.T) {
 	eachFile(t, func(name string, _ []byte, _ *token.FileSet, f *ast.File) {
