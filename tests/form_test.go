@@ -487,6 +487,47 @@ func TestAMachineEmbedsItsDevices(t *testing.T) {
 	}
 }
 
+// structsOf are the structs that a file declares.
+func structsOf(f *ast.File) map[string]int {
+	out := map[string]int{}
+	ast.Inspect(f, func(n ast.Node) bool {
+		if x, ok := n.(*ast.TypeSpec); ok {
+			if _, ok := x.Type.(*ast.StructType); ok {
+				out[x.Name.Name]++
+			}
+		}
+		return true
+	})
+	return out
+}
+
+// A slot's key is a struct that is a key of a map, and what Drop leaves out is cleared.
+func TestSlotsHaveAKeyAndAreCleared(t *testing.T) {
+	keys, clears := 0, 0
+	eachFile(t, func(name string, _ []byte, _ *token.FileSet, f *ast.File) {
+		if filepath.Base(name) != "l10_cache.go" {
+			return
+		}
+		own := structsOf(f)
+		ast.Inspect(f, func(n ast.Node) bool {
+			if x, ok := n.(*ast.MapType); ok {
+				if key, ok := x.Key.(*ast.Ident); ok {
+					keys += own[key.Name]
+				}
+			}
+			return true
+		})
+		for _, d := range f.Decls {
+			if x, ok := d.(*ast.FuncDecl); ok && x.Name.Name == "Drop" {
+				clears += callsOf(x, "clear")
+			}
+		}
+	})
+	if keys == 0 || clears == 0 {
+		t.Errorf("%d maps with a struct of its own as key, %d clears in Drop", keys, clears)
+	}
+}
+
 // At package level stand no maps, no functions and nothing without a value of its own.
 func TestPackageVariables(t *testing.T) {
 	eachFile(t, func(name string, _ []byte, _ *token.FileSet, f *ast.File) {
