@@ -528,6 +528,58 @@ func TestSlotsHaveAKeyAndAreCleared(t *testing.T) {
 	}
 }
 
+// switchesOf counts the switches of a piece of the program in which a case goes on with the next one.
+func switchesOf(within ast.Node) int {
+	n := 0
+	ast.Inspect(within, func(x ast.Node) bool {
+		if c, ok := x.(*ast.CaseClause); ok && len(c.Body) > 0 {
+			if last, ok := c.Body[len(c.Body)-1].(*ast.BranchStmt); ok && last.Tok == token.FALLTHROUGH {
+				n++
+			}
+		}
+		return true
+	})
+	return n
+}
+
+// A step has switches with fallthrough, tells forms by a type switch, and asserts what must hold: such an assertion has one value, and would panic. None of it stands in what the document lists.
+func TestStepsTellFormsByTypes(t *testing.T) {
+	throughs, types, asserts := 0, 0, 0
+	eachFile(t, func(name string, _ []byte, _ *token.FileSet, f *ast.File) {
+		if filepath.Base(name) != "l11_step.go" {
+			return
+		}
+		for _, d := range f.Decls {
+			x, ok := d.(*ast.FuncDecl)
+			if !ok || x.Name.IsExported() {
+				continue
+			}
+			throughs += switchesOf(x)
+			two := map[ast.Node]bool{}
+			ast.Inspect(x, func(n ast.Node) bool {
+				switch y := n.(type) {
+				case *ast.AssignStmt:
+					if len(y.Lhs) == 2 && len(y.Rhs) == 1 {
+						two[y.Rhs[0]] = true
+					}
+				case *ast.TypeSwitchStmt:
+					if len(y.Body.List) > 5 {
+						types++
+					}
+				case *ast.TypeAssertExpr:
+					if y.Type != nil && !two[y] {
+						asserts++
+					}
+				}
+				return true
+			})
+		}
+	})
+	if throughs == 0 || types == 0 || asserts == 0 {
+		t.Errorf("%d cases with fallthrough, %d type switches, %d assertions of one value", throughs, types, asserts)
+	}
+}
+
 // At package level stand no maps, no functions and nothing without a value of its own.
 func TestPackageVariables(t *testing.T) {
 	eachFile(t, func(name string, _ []byte, _ *token.FileSet, f *ast.File) {
