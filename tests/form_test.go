@@ -580,6 +580,81 @@ func TestStepsTellFormsByTypes(t *testing.T) {
 	}
 }
 
+// pointerTo is the name of the type that (*T) points to, empty of what is none.
+func pointerTo(e ast.Expr) string {
+	if p, ok := e.(*ast.ParenExpr); ok {
+		if star, ok := p.X.(*ast.StarExpr); ok {
+			if of, ok := star.X.(*ast.Ident); ok {
+				return of.Name
+			}
+		}
+	}
+	return ""
+}
+
+// The events are method expressions in a table inside a function.
+func TestEventsAreMethodExpressions(t *testing.T) {
+	rows, methods := 0, methodsOf(t, "player")
+	eachFile(t, func(name string, _ []byte, _ *token.FileSet, f *ast.File) {
+		if filepath.Base(name) != "l12_run.go" {
+			return
+		}
+		for _, d := range f.Decls {
+			x, ok := d.(*ast.FuncDecl)
+			if !ok {
+				continue
+			}
+			ast.Inspect(x, func(n ast.Node) bool {
+				row, ok := n.(*ast.CompositeLit)
+				if !ok {
+					return true
+				}
+				for _, e := range row.Elts {
+					if s, ok := e.(*ast.SelectorExpr); ok && pointerTo(s.X) == "player" && methods[s.Sel.Name] > 0 {
+						rows++
+					}
+				}
+				return true
+			})
+		}
+	})
+	if rows != 3 {
+		t.Errorf("%d rows with a method expression, want one for each kind of event", rows)
+	}
+}
+
+// Both machines, the one that keeps translations and the one that keeps none, run as goroutines that a WaitGroup joins.
+func TestBothMachinesRunAsGoroutines(t *testing.T) {
+	groups, starts, waits := 0, 0, 0
+	eachFile(t, func(name string, _ []byte, _ *token.FileSet, f *ast.File) {
+		if filepath.Base(name) != "l12_run.go" {
+			return
+		}
+		for _, d := range f.Decls {
+			x, ok := d.(*ast.FuncDecl)
+			if !ok || x.Name.Name != "Fast" {
+				continue
+			}
+			ast.Inspect(x, func(n ast.Node) bool {
+				if s, ok := n.(*ast.SelectorExpr); ok {
+					switch s.Sel.Name {
+					case "WaitGroup":
+						groups++
+					case "Go":
+						starts++
+					case "Wait":
+						waits++
+					}
+				}
+				return true
+			})
+		}
+	})
+	if groups != 1 || starts != 2 || waits != 1 {
+		t.Errorf("%d groups, %d goroutines, %d waits", groups, starts, waits)
+	}
+}
+
 // At package level stand no maps, no functions and nothing without a value of its own.
 func TestPackageVariables(t *testing.T) {
 	eachFile(t, func(name string, _ []byte, _ *token.FileSet, f *ast.File) {

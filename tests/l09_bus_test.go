@@ -185,13 +185,20 @@ func loadedBy(m impl.Machine, to uint64, size int64, kind int64) (uint64, impl.M
 	return 0, m, false
 }
 
+// way tells where an access leads, as led does.
+type way func(ram []byte, list []uint64, priv int64, addr uint64, kind int64) path
+
 // reached is a second reading of Access, for arguments that are right.
 func reached(m impl.Machine, addr uint64, size, kind int64, x uint64) told {
+	return reachedBy(led, m, addr, size, kind, x)
+}
+
+func reachedBy(lead way, m impl.Machine, addr uint64, size, kind int64, x uint64) told {
 	if addr%uint64(size) != 0 {
 		return told{0, m, crookedFaults[kind]}
 	}
 	priv := privFor(m, kind)
-	p := led(m.Ram, m.Csrs, priv, addr, kind)
+	p := lead(m.Ram, m.Csrs, priv, addr, kind)
 	m.Ram = p.ram
 	if p.code != 0 {
 		return told{0, m, p.code + 16}

@@ -17,11 +17,12 @@ type stepper struct {
 	ops     []opLine
 	csrs    []csrLine
 	numbers []int64
+	lead    way
 }
 
 func stepperOf(t *testing.T) stepper {
 	t.Helper()
-	return stepper{t, opLines(t), csrLines(t), csrNumbers(t)}
+	return stepper{t, opLines(t), csrLines(t), csrNumbers(t), led}
 }
 
 // after is what a step comes to.
@@ -65,7 +66,7 @@ func (s stepper) read(m impl.Machine) after {
 	if n := taken(m.Csrs, m.Priv); n >= 0 {
 		return after{trapped(m, n, true, 0), 3}
 	}
-	got := reached(m, m.Pc, 4, impl.KdFetch, 0)
+	got := reachedBy(s.lead, m, m.Pc, 4, impl.KdFetch, 0)
 	if got.code != 0 {
 		return raised(got.m, got.code-16, m.Pc)
 	}
@@ -94,11 +95,11 @@ func (s stepper) byOpcode(m impl.Machine, word uint64, i impl.Inst) after {
 		}
 		return done(m, 0, 0, m.Pc+4)
 	case 3:
-		return loadDone(m, i.Rd, a+n, l.name)
+		return s.loadDone(m, i.Rd, a+n, l.name)
 	case 35:
-		return storeDone(m, a+n, map[string]int64{"sb": 1, "sh": 2, "sw": 4, "sd": 8}[l.name], b)
+		return s.storeDone(m, a+n, map[string]int64{"sb": 1, "sh": 2, "sw": 4, "sd": 8}[l.name], b)
 	case 47:
-		return atomicDone(m, i, l.name)
+		return s.atomicDone(m, i, l.name)
 	case 15:
 		return done(m, 0, 0, m.Pc+4)
 	case 115:
@@ -114,10 +115,10 @@ func (s stepper) byOpcode(m impl.Machine, word uint64, i impl.Inst) after {
 	return done(m, i.Rd, x, m.Pc+4)
 }
 
-func loadDone(m impl.Machine, rd int64, addr uint64, name string) after {
+func (s stepper) loadDone(m impl.Machine, rd int64, addr uint64, name string) after {
 	plain, bare := strings.CutSuffix(name, "u")
 	size := map[string]int64{"lb": 1, "lh": 2, "lw": 4, "ld": 8, "lr.w": 4, "lr.d": 8}[plain]
-	got := reached(m, addr, size, impl.KdLoad, 0)
+	got := reachedBy(s.lead, m, addr, size, impl.KdLoad, 0)
 	if got.code != 0 {
 		return raised(got.m, got.code-16, addr)
 	}
@@ -127,54 +128,53 @@ func loadDone(m impl.Machine, rd int64, addr uint64, name string) after {
 	return done(got.m, rd, got.x, m.Pc+4)
 }
 
-func storeDone(m impl.Machine, addr uint64, size int64, x uint64) after {
-	got := reached(m, addr, size, impl.KdStore, x)
+func (s stepper) storeDone(m impl.Machine, addr uint64, size int64, x uint64) after {
+	got := reachedBy(s.lead, m, addr, size, impl.KdStore, x)
 	if got.code != 0 {
 		return raised(got.m, got.code-16, addr)
 	}
 	return done(got.m, 0, 0, m.Pc+4)
 }
 
-func atomicDone(m impl.Machine, i impl.Inst, name string) after {
+func (s stepper) atomicDone(m impl.Machine, i impl.Inst, name string) after {
 	a, size := m.X[i.A], int64(8)
 	if strings.HasSuffix(name, ".w") {
 		size = 4
 	}
 	if strings.HasPrefix(name, "lr") {
-		to := led(m.Ram, m.Csrs, privFor(m, impl.KdLoad), a, impl.KdLoad).to
-		out := loadDone(m, i.Rd, a, name)
+		out := s.loadDone(m, i.Rd, a, name)
 		if out.what == 1 {
-			out.m.Held, out.m.Hold = true, to
+			out.m.Held, out.m.Hold = true, s.lead(out.m.Ram, m.Csrs, privFor(m, impl.KdLoad), a, impl.KdLoad).to
 		}
 		return out
 	}
 	if a%uint64(size) != 0 {
 		return raised(m, 6, a)
 	}
-	p := led(m.Ram, m.Csrs, privFor(m, impl.KdStore), a, impl.KdStore)
+	p := s.lead(m.Ram, m.Csrs, privFor(m, impl.KdStore), a, impl.KdStore)
 	m.Ram = p.ram
 	if p.code != 0 {
 		return raised(m, p.code, a)
 	}
 	if strings.HasPrefix(name, "sc") {
-		return scDone(m, i, size, p.to)
+		return s.scDone(m, i, size, p.to)
 	}
-	got := reached(m, a, size, impl.KdLoad, 0)
+	got := reachedBy(s.lead, m, a, size, impl.KdLoad, 0)
 	if got.code != 0 {
 		return raised(got.m, map[int64]int64{21: 7, 29: 15}[got.code], a)
 	}
 	x, _ := impl.Amo(i.Op, got.x, m.X[i.B])
-	out := storeDone(got.m, a, size, x)
+	out := s.storeDone(got.m, a, size, x)
 	if out.what == 1 {
 		out.m.X = withWord(withWord(m.X, int(i.Rd), impl.Widen(got.x, 8*size)), 0, 0)
 	}
 	return out
 }
 
-func scDone(m impl.Machine, i impl.Inst, size int64, to uint64) after {
+func (s stepper) scDone(m impl.Machine, i impl.Inst, size int64, to uint64) after {
 	x := uint64(1)
 	if m.Held && m.Hold == to {
-		out := storeDone(m, m.X[i.A], size, m.X[i.B])
+		out := s.storeDone(m, m.X[i.A], size, m.X[i.B])
 		if out.what != 1 {
 			return out
 		}
