@@ -655,6 +655,61 @@ func TestBothMachinesRunAsGoroutines(t *testing.T) {
 	}
 }
 
+// labelsOf are the labels of a function, each with how many jumps go there.
+func labelsOf(x *ast.FuncDecl) map[string]int {
+	out := map[string]int{}
+	ast.Inspect(x, func(n ast.Node) bool {
+		switch y := n.(type) {
+		case *ast.LabeledStmt:
+			out[y.Label.Name] += 0
+		case *ast.BranchStmt:
+			if y.Tok == token.GOTO {
+				out[y.Label.Name]++
+			}
+		}
+		return true
+	})
+	return out
+}
+
+// A line is read as runes, by states that are labels, to each of which a jump goes; names are keys of a map.
+func TestLinesAreReadByStates(t *testing.T) {
+	states, runes, names := 0, 0, 0
+	eachFile(t, func(name string, _ []byte, _ *token.FileSet, f *ast.File) {
+		if filepath.Base(name) != "l13_assemble.go" {
+			return
+		}
+		for _, d := range f.Decls {
+			x, ok := d.(*ast.FuncDecl)
+			if !ok {
+				continue
+			}
+			for label, jumps := range labelsOf(x) {
+				if jumps == 0 {
+					t.Errorf("%s: nobody goes to %s", x.Name.Name, label)
+				}
+				states++
+			}
+			ast.Inspect(x, func(n ast.Node) bool {
+				switch y := n.(type) {
+				case *ast.ArrayType:
+					if of, ok := y.Elt.(*ast.Ident); ok && of.Name == "rune" {
+						runes++
+					}
+				case *ast.MapType:
+					if key, ok := y.Key.(*ast.Ident); ok && key.Name == "string" {
+						names++
+					}
+				}
+				return true
+			})
+		}
+	})
+	if states < 3 || runes == 0 || names == 0 {
+		t.Errorf("%d states, %d lists of runes, %d maps with names as keys", states, runes, names)
+	}
+}
+
 // At package level stand no maps, no functions and nothing without a value of its own.
 func TestPackageVariables(t *testing.T) {
 	eachFile(t, func(name string, _ []byte, _ *token.FileSet, f *ast.File) {
