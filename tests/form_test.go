@@ -710,6 +710,72 @@ func TestLinesAreReadByStates(t *testing.T) {
 	}
 }
 
+// closuresOf counts the function literals that are values of a map that is written out, by a text as key.
+func closuresOf(x *ast.CompositeLit) int {
+	n := 0
+	if _, ok := x.Type.(*ast.MapType); !ok {
+		return n
+	}
+	for _, e := range x.Elts {
+		if pair, ok := e.(*ast.KeyValueExpr); ok {
+			_, text := pair.Key.(*ast.BasicLit)
+			_, closure := pair.Value.(*ast.FuncLit)
+			if text && closure {
+				n++
+			}
+		}
+	}
+	return n
+}
+
+// isVariadic tells whether a function takes as many as there are, at its end.
+func isVariadic(x *ast.FuncDecl) bool {
+	list := x.Type.Params.List
+	if len(list) == 0 {
+		return false
+	}
+	_, ok := list[len(list)-1].Type.(*ast.Ellipsis)
+	return ok
+}
+
+// Each of the eight commands is a closure in a map, and every answer is told by a variadic helper: nobody else adds to them.
+func TestCommandsAreClosures(t *testing.T) {
+	closures, helpers, adders := 0, 0, 0
+	eachFile(t, func(name string, _ []byte, _ *token.FileSet, f *ast.File) {
+		if filepath.Base(name) != "l14_bench.go" {
+			return
+		}
+		for _, d := range f.Decls {
+			x, ok := d.(*ast.FuncDecl)
+			if !ok {
+				continue
+			}
+			adds := 0
+			ast.Inspect(x, func(n ast.Node) bool {
+				switch y := n.(type) {
+				case *ast.CompositeLit:
+					closures += closuresOf(y)
+				case *ast.AssignStmt:
+					for _, to := range y.Lhs {
+						if s, ok := to.(*ast.SelectorExpr); ok && s.Sel.Name == "answers" {
+							adds++
+						}
+					}
+				}
+				return true
+			})
+			if adds > 0 && isVariadic(x) {
+				helpers++
+			} else if adds > 0 {
+				adders++
+			}
+		}
+	})
+	if closures != 8 || helpers != 1 || adders != 0 {
+		t.Errorf("%d commands are closures in a map, %d variadic helpers add to the answers, and %d others", closures, helpers, adders)
+	}
+}
+
 // At package level stand no maps, no functions and nothing without a value of its own.
 func TestPackageVariables(t *testing.T) {
 	eachFile(t, func(name string, _ []byte, _ *token.FileSet, f *ast.File) {
